@@ -35,7 +35,7 @@ func Parse(s string) (api.Rat, api.Errno) {
 	if err != api.OK {
 		return api.Rat{}, err
 	}
-	return Norm(over(num, []uint32{1})), api.OK
+	return over(num, []uint32{1}), api.OK
 }
 
 // parseQuotient tells the number of the texts on both sides of a /.
