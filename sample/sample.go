@@ -1,0 +1,112 @@
+// Package sample makes programs for the tests of the layers: right ones, whose names and types are right too (layers 6, 8, 9). What they are like hangs on dice that a test throws.
+package sample
+
+import (
+	"strconv"
+
+	"foliot/api"
+)
+
+// Program makes a program; of dice(n) comes a number from 0 on, below n. Size is about how much is in it. Its places are all over, so that none of them says anything of what stands ahead.
+func Program(dice func(n int) int, size int) api.Program {
+	m := &maker{dice: dice, left: size, types: []string{"bool", "int", "rat"}}
+	for i := range dice(3) {
+		m.enum(i)
+	}
+	n := 1 + dice(3)
+	main := dice(n)
+	for i := range n {
+		name := numbered("f", i)
+		if i == main {
+			name = "main"
+		}
+		m.nodes = append(m.nodes, m.node(name))
+	}
+	shuffle(m, m.nodes)
+	return api.Program{Enums: m.enums, Nodes: m.nodes}
+}
+
+// maker is what is made of a program, and of a node.
+type maker struct {
+	dice  func(int) int
+	left  int      // how much may yet be made
+	types []string // that variables may have
+	enums []api.Enum
+	nodes []api.Node // they may be called by those that come
+	vars  []api.Var  // of the node that is made
+	own   map[string]ownVar
+}
+
+// ownVar is a variable that is the node's own.
+type ownVar struct {
+	api.Var
+	der bool
+}
+
+func (v ownVar) begins() bool { return len(v.Init) > 0 }
+
+func (m *maker) chance(n int) bool { return m.dice(n) == 0 }
+
+func (m *maker) place() int { return m.dice(1<<30) - 1<<29 }
+
+func one[T any](m *maker, of ...T) T { return of[m.dice(len(of))] }
+
+func shuffle[T any](m *maker, l []T) {
+	for i := range l {
+		j := m.dice(i + 1)
+		l[i], l[j] = l[j], l[i]
+	}
+}
+
+func numbered(head string, n int) string { return head + strconv.Itoa(n) }
+
+func (m *maker) enum(i int) {
+	e := api.Enum{Name: numbered("t", i), Pos: m.place()}
+	for j := range 1 + m.dice(2) {
+		e.Ctors = append(e.Ctors, numbered("S", 2*i+j))
+	}
+	m.enums = append(m.enums, e)
+	m.types = append(m.types, e.Name)
+}
+
+func (m *maker) node(name string) api.Node {
+	n := api.Node{Name: name, Hybrid: m.chance(2), Pos: m.place()}
+	m.vars, m.own = nil, map[string]ownVar{}
+	for range m.dice(4) {
+		v := m.variable()
+		if name == "main" {
+			v.Type = "rat"
+		}
+		n.In = append(n.In, v)
+		m.vars = append(m.vars, v)
+	}
+	for range 1 + m.dice(3) {
+		n.Out = append(n.Out, m.ownVariable())
+	}
+	for range m.dice(3) {
+		n.Local = append(n.Local, m.ownVariable())
+	}
+	var l []string
+	for _, v := range m.vars[len(n.In):] {
+		l = append(l, v.Name)
+	}
+	n.Eqs = m.telling(l, false, 4)
+	return n
+}
+
+func (m *maker) variable() api.Var {
+	return api.Var{Name: numbered("x", len(m.vars)), Type: one(m, m.types...), Pos: m.place()}
+}
+
+func (m *maker) ownVariable() api.Var {
+	v := m.variable()
+	if m.chance(2) {
+		v.Init = []api.Expr{m.literal(v.Type)}
+		if (v.Type == "int" || v.Type == "rat") && m.chance(3) {
+			v.Init = []api.Expr{{Kind: api.EUn, Name: "-", Args: v.Init, Pos: m.place()}}
+		}
+	}
+	m.vars = append(m.vars, v)
+	m.own[v.Name] = ownVar{v, v.Type == "rat" && m.chance(2)}
+	return v
+}
