@@ -58,7 +58,7 @@ func (m *maker) definition(l []string) api.Eq {
 
 func (m *maker) der(v ownVar, within bool) api.Eq {
 	m.left--
-	q := api.Eq{Kind: api.QDer, Names: []string{v.Name}, Args: []api.Expr{m.expr("rat", 3)}, Pos: m.place()}
+	q := api.Eq{Kind: api.QDer, Names: []string{v.Name}, Args: []api.Expr{m.slope()}, Pos: m.place()}
 	if !within && !v.begins() || m.chance(2) {
 		q.Init = []api.Expr{m.expr("rat", 3)}
 	}

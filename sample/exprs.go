@@ -9,10 +9,8 @@ func (m *maker) expr(t string, deep int) api.Expr {
 		return m.leaf(t)
 	}
 	switch m.dice(9) {
-	case 0:
-		return m.sign(api.EUn, deep, "pre", t)
-	case 1:
-		return m.sign(api.EBin, deep, one(m, "->", "fby"), t, t)
+	case 0, 1:
+		return m.remembered(t, deep)
 	case 2:
 		return m.sign(api.EIf, deep, "", "bool", t, t)
 	case 3:
@@ -38,6 +36,17 @@ func (m *maker) sign(kind, deep int, name string, types ...string) api.Expr {
 	return e
 }
 
+// remembered makes an expression that goes by what was.
+func (m *maker) remembered(t string, deep int) api.Expr {
+	switch {
+	case !m.may.loud:
+		return m.leaf(t)
+	case m.chance(2):
+		return m.sign(api.EUn, deep, "pre", t)
+	}
+	return m.sign(api.EBin, deep, one(m, "->", "fby"), t, t)
+}
+
 func (m *maker) truth(deep int) api.Expr {
 	switch m.dice(5) {
 	case 0:
@@ -51,7 +60,7 @@ func (m *maker) truth(deep int) api.Expr {
 		t := one(m, "int", "rat")
 		return m.sign(api.EBin, deep, one(m, "<", "<=", ">", ">="), t, t)
 	}
-	return m.sign(api.EUp, deep, "", "rat")
+	return m.up(deep)
 }
 
 func (m *maker) whole(deep int) api.Expr {
@@ -78,11 +87,11 @@ func (m *maker) exact(deep int) api.Expr {
 	return m.sign(api.EUn, deep, "rat", "int")
 }
 
-// call makes a call of a node that tells just these types, or, if there is none, what tells them without.
+// call makes a call of a node that tells just these types, or, if there is none that may be called, what tells them without.
 func (m *maker) call(deep int, types ...string) api.Expr {
 	var l []api.Node
 	for _, n := range m.nodes {
-		if tells(n, types) {
+		if tells(n, types) && m.may.loud && (m.may.hybrid || !n.Hybrid) {
 			l = append(l, n)
 		}
 	}
@@ -119,7 +128,9 @@ func (m *maker) leaf(t string) api.Expr {
 		if v.Type != t {
 			continue
 		}
-		l = append(l, api.Expr{Kind: api.EVar, Name: v.Name})
+		if m.may.ders || !m.own[v.Name].der {
+			l = append(l, api.Expr{Kind: api.EVar, Name: v.Name})
+		}
 		if m.own[v.Name].begins() {
 			l = append(l, api.Expr{Kind: api.ELast, Name: v.Name})
 		}

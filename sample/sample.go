@@ -1,4 +1,4 @@
-// Package sample makes programs for the tests of the layers: right ones, whose names and types are right too (layers 6, 8, 9). What they are like hangs on dice that a test throws.
+// Package sample makes programs for the tests of the layers: right ones, whose names and types are right too (layers 6, 8, 9), and, where that is asked for, their kinds (layer 10). What they are like hangs on dice that a test throws.
 package sample
 
 import (
@@ -9,12 +9,26 @@ import (
 
 // Program makes a program; of dice(n) comes a number from 0 on, below n. Size is about how much is in it. Its places are all over, so that none of them says anything of what stands ahead.
 func Program(dice func(n int) int, size int) api.Program {
-	m := &maker{dice: dice, left: size, types: []string{"bool", "int", "rat"}}
-	for i := range dice(3) {
+	return newMaker(dice, size).program()
+}
+
+// Kinded makes a program likewise, whose kinds are right too.
+func Kinded(dice func(n int) int, size int) api.Program {
+	m := newMaker(dice, size)
+	m.kinded = true
+	return m.program()
+}
+
+func newMaker(dice func(int) int, size int) *maker {
+	return &maker{dice: dice, left: size, types: []string{"bool", "int", "rat"}}
+}
+
+func (m *maker) program() api.Program {
+	for i := range m.dice(3) {
 		m.enum(i)
 	}
-	n := 1 + dice(3)
-	main := dice(n)
+	n := 1 + m.dice(3)
+	main := m.dice(n)
 	for i := range n {
 		name := numbered("f", i)
 		if i == main {
@@ -28,13 +42,20 @@ func Program(dice func(n int) int, size int) api.Program {
 
 // maker is what is made of a program, and of a node.
 type maker struct {
-	dice  func(int) int
-	left  int      // how much may yet be made
-	types []string // that variables may have
-	enums []api.Enum
-	nodes []api.Node // they may be called by those that come
-	vars  []api.Var  // of the node that is made
-	own   map[string]ownVar
+	dice   func(int) int
+	left   int      // how much may yet be made
+	kinded bool     // must kinds be right
+	types  []string // that variables may have
+	enums  []api.Enum
+	nodes  []api.Node // they may be called by those that come
+	vars   []api.Var  // of the node that is made
+	own    map[string]ownVar
+	may    may // of what is made next
+}
+
+// may is what may stand in what is made: what hybrid nodes alone may have, what ders are, what is not quiet.
+type may struct {
+	hybrid, ders, loud bool
 }
 
 // ownVar is a variable that is the node's own.
@@ -71,7 +92,7 @@ func (m *maker) enum(i int) {
 
 func (m *maker) node(name string) api.Node {
 	n := api.Node{Name: name, Hybrid: m.chance(2), Pos: m.place()}
-	m.vars, m.own = nil, map[string]ownVar{}
+	m.vars, m.own, m.may = nil, map[string]ownVar{}, may{n.Hybrid || !m.kinded, true, true}
 	for range m.dice(4) {
 		v := m.variable()
 		if name == "main" {
@@ -107,6 +128,6 @@ func (m *maker) ownVariable() api.Var {
 		}
 	}
 	m.vars = append(m.vars, v)
-	m.own[v.Name] = ownVar{v, v.Type == "rat" && m.chance(2)}
+	m.own[v.Name] = ownVar{v, v.Type == "rat" && m.may.hybrid && m.chance(2)}
 	return v
 }

@@ -8,51 +8,68 @@ import (
 	"testing"
 
 	"foliot/api"
+	"foliot/kinds"
 	"foliot/lex"
 	"foliot/sample"
 	"foliot/show"
 	"foliot/types"
 )
 
-func TestPrograms(t *testing.T) {
-	// Programs are right, and so are their names and types; there is of everything in them that a source may have.
-	seen := map[string]int{}
+// maker is one of the package's calls.
+type maker func(dice func(int) int, size int) api.Program
+
+// seen asks that programs are right, that a check of a layer finds nothing in them, and that there is of everything in them that a source may have.
+func seen(t *testing.T, program maker, check func(api.Program) (api.Errno, int)) {
+	t.Helper()
+	count := map[string]int{}
 	for seed := range int64(1000) {
-		p := sample.Program(rand.New(rand.NewSource(seed)).Intn, 80)
+		p := program(rand.New(rand.NewSource(seed)).Intn, 80)
 		text, err := show.Show(p)
 		if err != api.OK {
 			t.Fatal(p, err)
 		}
-		if err, place := types.Check(p); err != api.OK {
+		if err, place := check(p); err != api.OK {
 			t.Fatalf("%s\n%v, %d", text, err, place)
 		}
 		l, _, _ := lex.Tokens(text)
 		for _, x := range l {
-			seen[x.Text]++
+			count[x.Text]++
 		}
 	}
 	for _, text := range strings.Fields("type t0 t1 S0 S2 node hybrid main f0 returns var let tel if then else pre fby last der init reset when every automaton state until continue present end true false and or not up bool int rat floor div mod ( , -> + - * / < <= > >= == !=") {
-		if seen[text] < 100 {
-			t.Error(text, seen[text])
+		if count[text] < 100 {
+			t.Error(text, count[text])
 		}
 	}
 }
 
+func TestPrograms(t *testing.T) {
+	// Programs' names and types are right.
+	seen(t, sample.Program, types.Check)
+}
+
+func TestKinded(t *testing.T) {
+	// So are kinds, where that is asked for.
+	seen(t, sample.Kinded, kinds.Check)
+}
+
 func TestSameDice(t *testing.T) {
 	// Of the same dice come the same programs; of more, larger ones.
-	small, large := 0, 0
-	for seed := range int64(200) {
-		throw := func() func(int) int { return rand.New(rand.NewSource(seed)).Intn }
-		p := sample.Program(throw(), 60)
-		if !reflect.DeepEqual(p, sample.Program(throw(), 60)) {
-			t.Fatal(seed)
+	for _, program := range []maker{sample.Program, sample.Kinded} {
+		small, large := 0, 0
+		for seed := range int64(200) {
+			throw := func() func(int) int { return rand.New(rand.NewSource(seed)).Intn }
+			p := program(throw(), 60)
+			if !reflect.DeepEqual(p, program(throw(), 60)) {
+				t.Fatal(seed)
+			}
+			a, _ := show.Show(p)
+			b, _ := show.Show(program(throw(), 1000))
+			small, large = small+len(a), large+len(b)
 		}
-		a, _ := show.Show(p)
-		b, _ := show.Show(sample.Program(throw(), 1000))
-		small, large = small+len(a), large+len(b)
-	}
-	if 4*small > 3*large {
-		t.Error(small, large)
+		if 4*small > 3*large {
+			t.Error(small, large)
+		}
 	}
 }
 
@@ -64,9 +81,12 @@ func TestAnyDice(t *testing.T) {
 		"middle":   func(n int) int { return n / 2 },
 	} {
 		for _, size := range []int{-5, 0, 1, 30, 3000} {
-			p := sample.Program(dice, size)
+			p, q := sample.Program(dice, size), sample.Kinded(dice, size)
 			if err, place := types.Check(p); err != api.OK {
 				t.Error(name+" "+strconv.Itoa(size), p, err, place)
+			}
+			if err, place := kinds.Check(q); err != api.OK {
+				t.Error(name+" "+strconv.Itoa(size), q, err, place)
 			}
 		}
 	}
