@@ -41,10 +41,16 @@ func (m *maker) remembered(t string, deep int) api.Expr {
 	switch {
 	case !m.may.loud:
 		return m.leaf(t)
-	case m.chance(2):
-		return m.sign(api.EUn, deep, "pre", t)
+	case m.may.nothing && m.chance(2):
+		return m.pre(t, deep)
 	}
-	return m.sign(api.EBin, deep, one(m, "->", "fby"), t, t)
+	e := api.Expr{Kind: api.EBin, Name: one(m, "->", "fby"), Pos: m.place()}
+	second := m.beginning
+	if e.Name == "->" {
+		second = m.later
+	}
+	e.Args = []api.Expr{m.expr(t, deep-1), second(t, deep-1)}
+	return e
 }
 
 func (m *maker) truth(deep int) api.Expr {
@@ -106,7 +112,7 @@ func (m *maker) call(deep int, types ...string) api.Expr {
 	for _, v := range n.In {
 		wanted = append(wanted, v.Type)
 	}
-	return m.sign(api.ECall, deep, n.Name, wanted...)
+	return m.told(func() api.Expr { return m.sign(api.ECall, deep, n.Name, wanted...) })
 }
 
 func tells(n api.Node, types []string) bool {

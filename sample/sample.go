@@ -1,4 +1,4 @@
-// Package sample makes programs for the tests of the layers: right ones, whose names and types are right too (layers 6, 8, 9), and, where that is asked for, their kinds (layer 10). What they are like hangs on dice that a test throws.
+// Package sample makes programs for the tests of the layers: right ones, whose names and types are right too (layers 6, 8, 9), and, where that is asked for, their kinds (layer 10) and what they tell at the first instant (layer 11). What they are like hangs on dice that a test throws.
 package sample
 
 import (
@@ -16,6 +16,13 @@ func Program(dice func(n int) int, size int) api.Program {
 func Kinded(dice func(n int) int, size int) api.Program {
 	m := newMaker(dice, size)
 	m.kinded = true
+	return m.program()
+}
+
+// Begun makes a program likewise, whose kinds are right, and which tells all at the first instant that it must.
+func Begun(dice func(n int) int, size int) api.Program {
+	m := newMaker(dice, size)
+	m.kinded, m.begun = true, true
 	return m.program()
 }
 
@@ -45,6 +52,7 @@ type maker struct {
 	dice   func(int) int
 	left   int      // how much may yet be made
 	kinded bool     // must kinds be right
+	begun  bool     // must all be told at the first instant
 	types  []string // that variables may have
 	enums  []api.Enum
 	nodes  []api.Node // they may be called by those that come
@@ -53,9 +61,9 @@ type maker struct {
 	may    may // of what is made next
 }
 
-// may is what may stand in what is made: what hybrid nodes alone may have, what ders are, what is not quiet.
+// may is what may stand in what is made: what hybrid nodes alone may have, what ders are, what is not quiet, what tells nothing at the first instant.
 type may struct {
-	hybrid, ders, loud bool
+	hybrid, ders, loud, nothing bool
 }
 
 // ownVar is a variable that is the node's own.
@@ -92,7 +100,7 @@ func (m *maker) enum(i int) {
 
 func (m *maker) node(name string) api.Node {
 	n := api.Node{Name: name, Hybrid: m.chance(2), Pos: m.place()}
-	m.vars, m.own, m.may = nil, map[string]ownVar{}, may{n.Hybrid || !m.kinded, true, true}
+	m.vars, m.own, m.may = nil, map[string]ownVar{}, may{hybrid: n.Hybrid || !m.kinded, ders: true, loud: true, nothing: !m.begun}
 	for range m.dice(4) {
 		v := m.variable()
 		if name == "main" {

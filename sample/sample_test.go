@@ -8,6 +8,7 @@ import (
 	"testing"
 
 	"foliot/api"
+	"foliot/inits"
 	"foliot/kinds"
 	"foliot/lex"
 	"foliot/sample"
@@ -53,9 +54,14 @@ func TestKinded(t *testing.T) {
 	seen(t, sample.Kinded, kinds.Check)
 }
 
+func TestBegun(t *testing.T) {
+	// So is what they tell at the first instant, where that is asked for.
+	seen(t, sample.Begun, inits.Check)
+}
+
 func TestSameDice(t *testing.T) {
 	// Of the same dice come the same programs; of more, larger ones.
-	for _, program := range []maker{sample.Program, sample.Kinded} {
+	for _, program := range []maker{sample.Program, sample.Kinded, sample.Begun} {
 		small, large := 0, 0
 		for seed := range int64(200) {
 			throw := func() func(int) int { return rand.New(rand.NewSource(seed)).Intn }
@@ -81,12 +87,15 @@ func TestAnyDice(t *testing.T) {
 		"middle":   func(n int) int { return n / 2 },
 	} {
 		for _, size := range []int{-5, 0, 1, 30, 3000} {
-			p, q := sample.Program(dice, size), sample.Kinded(dice, size)
+			p, q, b := sample.Program(dice, size), sample.Kinded(dice, size), sample.Begun(dice, size)
 			if err, place := types.Check(p); err != api.OK {
 				t.Error(name+" "+strconv.Itoa(size), p, err, place)
 			}
 			if err, place := kinds.Check(q); err != api.OK {
 				t.Error(name+" "+strconv.Itoa(size), q, err, place)
+			}
+			if err, place := inits.Check(b); err != api.OK {
+				t.Error(name+" "+strconv.Itoa(size), b, err, place)
 			}
 		}
 	}
