@@ -45,14 +45,15 @@ func (m *maker) definition(l []string) api.Eq {
 	for _, name := range l {
 		types = append(types, m.own[name].Type)
 	}
-	switch {
-	case m.chance(2):
-		q.Args = []api.Expr{m.call(4, types...)}
-	case len(l) == 1:
-		q.Args = []api.Expr{m.expr(types[0], 4)}
-	default:
-		q.Args = []api.Expr{m.sign(api.ETuple, 4, "", types...)}
-	}
+	q.Args = []api.Expr{m.ahead(l, func() api.Expr {
+		switch {
+		case m.chance(2):
+			return m.call(4, types...)
+		case len(l) == 1:
+			return m.expr(types[0], 4)
+		}
+		return m.sign(api.ETuple, 4, "", types...)
+	})}
 	return q
 }
 
@@ -60,12 +61,17 @@ func (m *maker) der(v ownVar, within bool) api.Eq {
 	m.left--
 	q := api.Eq{Kind: api.QDer, Names: []string{v.Name}, Args: []api.Expr{m.slope()}, Pos: m.place()}
 	if !within && !v.begins() || m.chance(2) {
-		q.Init = []api.Expr{m.expr("rat", 3)}
+		q.Init = []api.Expr{m.aheadOf("rat", v.Name)}
 	}
 	if m.chance(2) {
-		q.Again = []api.Expr{m.expr("rat", 3), m.expr("bool", 3)}
+		q.Again = []api.Expr{m.aheadOf("rat", v.Name), m.aheadOf("bool", v.Name)}
 	}
 	return q
+}
+
+// aheadOf makes an expression of this type on which all of these may hang.
+func (m *maker) aheadOf(t string, l ...string) api.Expr {
+	return m.ahead(l, func() api.Expr { return m.expr(t, 3) })
 }
 
 // block makes a block, or a choice of blocks, that tells these names. A der without a beginning can't be chosen.
@@ -81,9 +87,9 @@ func (m *maker) block(l []string, within bool, deep int) api.Eq {
 	switch kind {
 	case api.QReset:
 		q.Blocks = [][]api.Eq{m.telling(l, within, deep-1)}
-		q.Args = []api.Expr{m.expr("bool", 3)}
+		q.Args = []api.Expr{m.aheadOf("bool", l...)}
 	case api.QPresent:
-		q.Args = []api.Expr{m.expr("bool", 3)}
+		q.Args = []api.Expr{m.aheadOf("bool", l...)}
 		for _, part := range m.shared(l, 2) {
 			q.Blocks = append(q.Blocks, m.telling(part, true, deep-1))
 		}

@@ -54,6 +54,9 @@ func (m *maker) remembered(t string, deep int) api.Expr {
 }
 
 func (m *maker) truth(deep int) api.Expr {
+	if m.causal && m.may.hybrid && m.may.loud && m.chance(3) {
+		return m.up(deep)
+	}
 	switch m.dice(5) {
 	case 0:
 		return m.sign(api.EUn, deep, "not", "bool")
@@ -76,7 +79,7 @@ func (m *maker) whole(deep int) api.Expr {
 	case 1:
 		return m.sign(api.EBin, deep, one(m, "+", "-", "*"), "int", "int")
 	case 2:
-		return m.sign(api.EBin, deep, one(m, "div", "mod"), "int", "int")
+		return m.quotient(deep, one(m, "div", "mod"), "int")
 	}
 	return m.sign(api.EUn, deep, "floor", "rat")
 }
@@ -88,9 +91,15 @@ func (m *maker) exact(deep int) api.Expr {
 	case 1:
 		return m.sign(api.EBin, deep, one(m, "+", "-", "*"), "rat", "rat")
 	case 2:
-		return m.sign(api.EBin, deep, "/", "rat", "rat")
+		return m.quotient(deep, "/", "rat")
 	}
 	return m.sign(api.EUn, deep, "rat", "int")
+}
+
+func (m *maker) quotient(deep int, name, t string) api.Expr {
+	e := api.Expr{Kind: api.EBin, Name: name, Pos: m.place()}
+	e.Args = []api.Expr{m.expr(t, deep-1), m.divisor(t, func() api.Expr { return m.expr(t, deep-1) })}
+	return e
 }
 
 // call makes a call of a node that tells just these types, or, if there is none that may be called, what tells them without.
@@ -134,7 +143,7 @@ func (m *maker) leaf(t string) api.Expr {
 		if v.Type != t {
 			continue
 		}
-		if m.may.ders || !m.own[v.Name].der {
+		if (m.may.ders || !m.own[v.Name].der) && m.own[v.Name].rank < m.may.rank {
 			l = append(l, api.Expr{Kind: api.EVar, Name: v.Name})
 		}
 		if m.own[v.Name].begins() {

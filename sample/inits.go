@@ -11,7 +11,9 @@ func (m *maker) told(make func() api.Expr) api.Expr {
 
 // beginning makes an expression that tells something at the first instant, where that is asked for.
 func (m *maker) beginning(t string, deep int) api.Expr {
-	return m.told(func() api.Expr { return m.expr(t, deep) })
+	return m.free(func() api.Expr {
+		return m.told(func() api.Expr { return m.expr(t, deep) })
+	})
 }
 
 // later makes an expression that nobody asks for at the first instant. Where all others must tell something then, it is often the only one that may tell nothing.
@@ -27,5 +29,7 @@ func (m *maker) later(t string, deep int) api.Expr {
 }
 
 func (m *maker) pre(t string, deep int) api.Expr {
-	return m.told(func() api.Expr { return m.sign(api.EUn, deep, "pre", t) })
+	return m.free(func() api.Expr {
+		return m.told(func() api.Expr { return m.sign(api.EUn, deep, "pre", t) })
+	})
 }

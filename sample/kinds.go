@@ -13,13 +13,20 @@ func (m *maker) within(now may, make func() api.Expr) api.Expr {
 
 // staying makes an expression that stays as it is between instants.
 func (m *maker) staying(t string, deep int) api.Expr {
-	return m.within(may{}, func() api.Expr { return m.expr(t, deep) })
+	return m.within(may{rank: m.may.rank}, func() api.Expr { return m.expr(t, deep) })
 }
 
-// slope makes what a der goes on by.
+// slope makes what a der goes on by; where runs are asked for, often something that is not 0.
 func (m *maker) slope() api.Expr {
+	if m.causal && m.chance(2) {
+		e := api.Expr{Kind: api.ENum, Name: one(m, "1", "2", "0.5"), Pos: m.place()}
+		if m.chance(3) {
+			e = api.Expr{Kind: api.EUn, Name: "-", Args: []api.Expr{e}, Pos: m.place()}
+		}
+		return e
+	}
 	now := m.may
-	now.ders = !m.kinded
+	now.ders, now.rank = !m.kinded, anyRank
 	return m.within(now, func() api.Expr { return m.expr("rat", 3) })
 }
 
@@ -31,7 +38,27 @@ func (m *maker) up(deep int) api.Expr {
 	case !m.may.hybrid || !m.may.loud:
 		return m.leaf("bool")
 	}
-	return api.Expr{Kind: api.EUp, Args: []api.Expr{m.even(deep - 1)}, Pos: m.place()}
+	e := api.Expr{Kind: api.EUp, Pos: m.place()}
+	e.Args = []api.Expr{m.free(func() api.Expr { return m.asked(deep - 1) })}
+	return e
+}
+
+// asked makes what an up asks; where runs are asked for, often how a der stands to something.
+func (m *maker) asked(deep int) api.Expr {
+	var l []api.Expr
+	for _, v := range m.vars {
+		if m.own[v.Name].der {
+			l = append(l, api.Expr{Kind: api.EVar, Name: v.Name, Pos: m.place()})
+		}
+	}
+	if len(l) == 0 || !m.causal || !m.may.ders || m.chance(3) {
+		return m.even(deep)
+	}
+	e := api.Expr{Kind: api.EBin, Name: "-", Args: []api.Expr{one(m, l...), m.literal("rat")}, Pos: m.place()}
+	if m.chance(3) {
+		shuffle(m, e.Args)
+	}
+	return e
 }
 
 // even makes a rat that stays between instants, or goes on evenly.
@@ -54,7 +81,7 @@ func (m *maker) even(deep int) api.Expr {
 		shuffle(m, e.Args)
 	case 3:
 		e.Name = "/"
-		e.Args = []api.Expr{m.even(deep - 1), m.staying("rat", deep-1)}
+		e.Args = []api.Expr{m.even(deep - 1), m.divisor("rat", func() api.Expr { return m.staying("rat", deep-1) })}
 	case 4:
 		e.Kind = api.EIf
 		e.Args = []api.Expr{m.staying("bool", deep-1), m.even(deep - 1), m.even(deep - 1)}

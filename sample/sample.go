@@ -1,4 +1,4 @@
-// Package sample makes programs for the tests of the layers: right ones, whose names and types are right too (layers 6, 8, 9), and, where that is asked for, their kinds (layer 10) and what they tell at the first instant (layer 11). What they are like hangs on dice that a test throws.
+// Package sample makes programs for the tests of the layers: right ones, whose names and types are right too (layers 6, 8, 9), and, where that is asked for, their kinds (layer 10), what they tell at the first instant (layer 11), and what hangs on what (layer 13). What they are like hangs on dice that a test throws.
 package sample
 
 import (
@@ -23,6 +23,13 @@ func Kinded(dice func(n int) int, size int) api.Program {
 func Begun(dice func(n int) int, size int) api.Program {
 	m := newMaker(dice, size)
 	m.kinded, m.begun = true, true
+	return m.program()
+}
+
+// Causal makes a program likewise, in which nothing hangs on itself either (layer 13), and which is worth a run: it seldom divides by nought, and its ders often come to where an up asks them.
+func Causal(dice func(n int) int, size int) api.Program {
+	m := newMaker(dice, size)
+	m.kinded, m.begun, m.causal = true, true, true
 	return m.program()
 }
 
@@ -53,6 +60,7 @@ type maker struct {
 	left   int      // how much may yet be made
 	kinded bool     // must kinds be right
 	begun  bool     // must all be told at the first instant
+	causal bool     // must nothing hang on itself
 	types  []string // that variables may have
 	enums  []api.Enum
 	nodes  []api.Node // they may be called by those that come
@@ -61,20 +69,25 @@ type maker struct {
 	may    may // of what is made next
 }
 
-// may is what may stand in what is made: what hybrid nodes alone may have, what ders are, what is not quiet, what tells nothing at the first instant.
+// may is what may stand in what is made: what hybrid nodes alone may have, what ders are, what is not quiet, what tells nothing at the first instant; and which of the node's own variables, by their ranks, those below this one.
 type may struct {
 	hybrid, ders, loud, nothing bool
+	rank                        int
 }
 
 // ownVar is a variable that is the node's own.
 type ownVar struct {
 	api.Var
-	der bool
+	der  bool
+	rank int
 }
 
 func (v ownVar) begins() bool { return len(v.Init) > 0 }
 
 func (m *maker) chance(n int) bool { return m.dice(n) == 0 }
+
+// often is half the time, and more where runs are asked for.
+func (m *maker) often() bool { return m.chance(2) || m.causal && m.chance(2) }
 
 func (m *maker) place() int { return m.dice(1<<30) - 1<<29 }
 
@@ -99,8 +112,8 @@ func (m *maker) enum(i int) {
 }
 
 func (m *maker) node(name string) api.Node {
-	n := api.Node{Name: name, Hybrid: m.chance(2), Pos: m.place()}
-	m.vars, m.own, m.may = nil, map[string]ownVar{}, may{hybrid: n.Hybrid || !m.kinded, ders: true, loud: true, nothing: !m.begun}
+	n := api.Node{Name: name, Hybrid: m.often(), Pos: m.place()}
+	m.vars, m.own, m.may = nil, map[string]ownVar{}, may{hybrid: n.Hybrid || !m.kinded, ders: true, loud: true, nothing: !m.begun, rank: anyRank}
 	for range m.dice(4) {
 		v := m.variable()
 		if name == "main" {
@@ -119,6 +132,7 @@ func (m *maker) node(name string) api.Node {
 	for _, v := range m.vars[len(n.In):] {
 		l = append(l, v.Name)
 	}
+	m.ranks(l)
 	n.Eqs = m.telling(l, false, 4)
 	return n
 }
@@ -129,6 +143,9 @@ func (m *maker) variable() api.Var {
 
 func (m *maker) ownVariable() api.Var {
 	v := m.variable()
+	if m.causal && m.may.hybrid && m.chance(3) {
+		v.Type = "rat"
+	}
 	if m.chance(2) {
 		v.Init = []api.Expr{m.literal(v.Type)}
 		if (v.Type == "int" || v.Type == "rat") && m.chance(3) {
@@ -136,6 +153,6 @@ func (m *maker) ownVariable() api.Var {
 		}
 	}
 	m.vars = append(m.vars, v)
-	m.own[v.Name] = ownVar{v, v.Type == "rat" && m.may.hybrid && m.chance(2)}
+	m.own[v.Name] = ownVar{v, v.Type == "rat" && m.may.hybrid && m.often(), 0}
 	return v
 }

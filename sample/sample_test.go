@@ -11,6 +11,7 @@ import (
 	"foliot/inits"
 	"foliot/kinds"
 	"foliot/lex"
+	"foliot/meaning"
 	"foliot/sample"
 	"foliot/show"
 	"foliot/types"
@@ -59,9 +60,23 @@ func TestBegun(t *testing.T) {
 	seen(t, sample.Begun, inits.Check)
 }
 
+// causal is the check of a program in which nothing hangs on itself.
+func causal(p api.Program) (api.Errno, int) {
+	err, place := inits.Check(p)
+	if err == api.OK && !meaning.Causal(p) {
+		err = api.ErrCause
+	}
+	return err, place
+}
+
+func TestCausal(t *testing.T) {
+	// Nothing in them hangs on itself, where that is asked for.
+	seen(t, sample.Causal, causal)
+}
+
 func TestSameDice(t *testing.T) {
 	// Of the same dice come the same programs; of more, larger ones.
-	for _, program := range []maker{sample.Program, sample.Kinded, sample.Begun} {
+	for _, program := range []maker{sample.Program, sample.Kinded, sample.Begun, sample.Causal} {
 		small, large := 0, 0
 		for seed := range int64(200) {
 			throw := func() func(int) int { return rand.New(rand.NewSource(seed)).Intn }
@@ -87,15 +102,11 @@ func TestAnyDice(t *testing.T) {
 		"middle":   func(n int) int { return n / 2 },
 	} {
 		for _, size := range []int{-5, 0, 1, 30, 3000} {
-			p, q, b := sample.Program(dice, size), sample.Kinded(dice, size), sample.Begun(dice, size)
-			if err, place := types.Check(p); err != api.OK {
-				t.Error(name+" "+strconv.Itoa(size), p, err, place)
-			}
-			if err, place := kinds.Check(q); err != api.OK {
-				t.Error(name+" "+strconv.Itoa(size), q, err, place)
-			}
-			if err, place := inits.Check(b); err != api.OK {
-				t.Error(name+" "+strconv.Itoa(size), b, err, place)
+			for i, check := range []func(api.Program) (api.Errno, int){types.Check, kinds.Check, inits.Check, causal} {
+				p := []maker{sample.Program, sample.Kinded, sample.Begun, sample.Causal}[i](dice, size)
+				if err, place := check(p); err != api.OK {
+					t.Error(name+" "+strconv.Itoa(size), i, p, err, place)
+				}
 			}
 		}
 	}
