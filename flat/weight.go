@@ -2,7 +2,7 @@ package flat
 
 import "foliot/api"
 
-// scale weighs a node and all that it calls. It stops where that is too much: a few nodes that call one another may come to more than any number holds.
+// scale weighs a node and all that it calls. Where that is too much, it goes into no more calls: a few nodes that call one another may come to more than any number holds.
 type scale struct {
 	nodes map[string]api.Node
 	left  int // what may yet be put on it
@@ -24,9 +24,6 @@ func (s *scale) node(n api.Node) {
 
 func (s *scale) eqs(l []api.Eq) {
 	for _, q := range l {
-		if s.full() {
-			return
-		}
 		s.left--
 		s.exprs(q.Args)
 		s.exprs(q.Init)
