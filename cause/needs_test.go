@@ -2,7 +2,6 @@ package cause_test
 
 import (
 	"math"
-	"math/rand"
 	"reflect"
 	"slices"
 	"strings"
@@ -12,6 +11,7 @@ import (
 	"foliot/cause"
 	"foliot/flat"
 	"foliot/graph"
+	"foliot/sample"
 )
 
 // mixed is a good flat program whose equations stand in another order than its variables.
@@ -131,46 +131,6 @@ func refused(t *testing.T, what string, f api.Flat) {
 	}
 }
 
-// anyFlat makes a good flat program; there are so many variables, and more or less that they need.
-func anyFlat(r *rand.Rand, n int, round bool) api.Flat {
-	f := api.Flat{Ins: []string{"v"}, Names: make([]string, n)}
-	vars := func(below, least, most int) []int {
-		var l []int
-		for range least + r.Intn(most-least+1) {
-			l = append(l, r.Intn(below))
-		}
-		return l
-	}
-	for range 4 {
-		// What lies in a memory, a state is needed only by who reads it.
-		f.Mems = append(f.Mems, api.Mem{Next: r.Intn(n), Guard: r.Intn(n+1) - 1, Resets: vars((n+2)/3, 0, 3)})
-		f.Conts = append(f.Conts, api.Cont{Var: r.Intn(n), Guard: r.Intn(n+1) - 1, Resets: vars((n+2)/3, 0, 3), Slopes: []api.Slope{{Guard: r.Intn(n), Var: r.Intn(n)}}})
-	}
-	f.Cross = []api.Cross{{Guard: r.Intn(n), Ops: []api.COp{{Op: "var", Args: []int{r.Intn(n)}}}}}
-	for v, i := range r.Perm(n) {
-		below := n
-		if !round {
-			below = v
-		}
-		q := api.FEq{Var: v, Op: "lit", K: r.Intn(4), Guard: -1 - r.Intn(3)}
-		switch {
-		case below == 0:
-		case v > n/3 && i%2 == 0:
-			q.Op = []string{"mem", "cont"}[r.Intn(2)]
-		case i%3 == 0:
-			q.Op, q.Args = []string{"gand", "mrg"}[r.Intn(2)], vars(below, 1, 4)
-		case i%3 == 1:
-			q.Op, q.Args = []string{"+", "and", "div", "=="}[r.Intn(4)], vars(below, 2, 2)
-		}
-		if below > 0 && r.Intn(3) == 0 {
-			q.Guard = r.Intn(below)
-		}
-		f.Eqs = append(f.Eqs, q)
-	}
-	r.Shuffle(n, func(i, j int) { f.Eqs[i], f.Eqs[j] = f.Eqs[j], f.Eqs[i] })
-	return f
-}
-
 // isNeeded tells whether an equation needs a variable, by the words of the chapter.
 func isNeeded(f api.Flat, q api.FEq, v int) bool {
 	return slices.Contains(q.Args, v) || q.Guard == v ||
@@ -183,7 +143,7 @@ func TestRandomFlats(t *testing.T) {
 	count := map[bool]int{}
 	for seed := range int64(3000) {
 		r := dice(seed)
-		f := anyFlat(r, 1+r.Intn(14), seed%2 == 0)
+		f := sample.Flat(r.Intn, 1+r.Intn(14), seed%2 == 0)
 		if !flat.Good(f) {
 			t.Fatal(f)
 		}
@@ -260,25 +220,9 @@ func behind(f api.Flat) string {
 func TestWhateverIsGiven(t *testing.T) {
 	// R1: calls end at all flat programs, and are of one mind, whatever stands in them.
 	r := dice(1)
-	odd := func() int { return []int{math.MinInt, -1, 0, 0, 0, 1, 1, 2, math.MaxInt}[r.Intn(9)] }
-	row := func() []int {
-		var l []int
-		for range r.Intn(4) {
-			l = append(l, odd())
-		}
-		return l
-	}
 	good := 0
 	for range 40000 {
-		f := api.Flat{Names: make([]string, r.Intn(3)), Ins: make([]string, r.Intn(2))}
-		for v := range f.Names {
-			op := []string{"lit", "mem", "cont", "gand", "mrg", "copy", "+", "sel", ""}[r.Intn(9)]
-			f.Eqs = append(f.Eqs, api.FEq{Var: v, Op: op, Args: row(), K: r.Intn(3) - 1, Guard: odd()})
-		}
-		if r.Intn(2) == 0 {
-			f.Mems = append(f.Mems, api.Mem{Guard: odd(), Resets: row()})
-			f.Conts = append(f.Conts, api.Cont{Guard: odd(), Resets: row()})
-		}
+		f := sample.Odd(r.Intn)
 		_, err := cause.Order(f)
 		if (err != api.ErrArg) != flat.Good(f) || (err == api.ErrCause) != (len(cause.Cycle(f)) > 0) || (len(cause.Needs(f)) > 0) != (err != api.ErrArg && len(f.Names) > 0) {
 			t.Fatal(f, err)

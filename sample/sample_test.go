@@ -8,6 +8,8 @@ import (
 	"testing"
 
 	"foliot/api"
+	"foliot/cause"
+	"foliot/flat"
 	"foliot/inits"
 	"foliot/kinds"
 	"foliot/lex"
@@ -74,6 +76,55 @@ func TestCausal(t *testing.T) {
 	seen(t, sample.Causal, causal)
 }
 
+func TestFlat(t *testing.T) {
+	// Flat programs are good, have an order unless circles may be, and there is of everything in them.
+	count, orders := map[string]int{}, map[bool]int{}
+	for seed := range int64(2000) {
+		circles := seed%2 == 0
+		f := sample.Flat(rand.New(rand.NewSource(seed)).Intn, int(seed%25), circles)
+		_, err := cause.Order(f)
+		if !flat.Good(f) || len(f.Names) != int(seed%25) || err != api.OK && !circles {
+			t.Fatal(f, err)
+		}
+		orders[err == api.OK]++
+		for _, q := range f.Eqs {
+			count[q.Op]++
+		}
+		for _, c := range f.Cross {
+			for _, op := range c.Ops {
+				count["l"+op.Op]++
+			}
+		}
+		count["out"], count["again"] = count["out"]+len(f.Outs), count["again"]+len(f.Again)
+		for _, c := range f.Conts {
+			count["slope"] += len(c.Slopes)
+			count["reset"] += len(c.Resets)
+		}
+	}
+	for _, op := range strings.Fields("lit in mem cont flag copy neg not floor rat gand mrg + - * / div mod < <= > >= == != and or sel lvar lcont l+ l- l* l/ lneg lsel out again slope reset") {
+		if count[op] < 100 {
+			t.Error(op, count[op])
+		}
+	}
+	if orders[true] < 300 || orders[false] < 300 {
+		t.Error(orders)
+	}
+}
+
+func TestOdd(t *testing.T) {
+	// Flat programs that may be anything are sometimes good, with an order or without one.
+	count := map[api.Errno]int{}
+	for seed := range int64(10000) {
+		f := sample.Odd(rand.New(rand.NewSource(seed)).Intn)
+		if _, err := cause.Order(f); len(f.Names) > 0 {
+			count[err]++
+		}
+	}
+	if count[api.OK] < 50 || count[api.ErrArg] < 1000 || count[api.ErrCause] < 20 {
+		t.Error(count)
+	}
+}
+
 func TestSameDice(t *testing.T) {
 	// Of the same dice come the same programs; of more, larger ones.
 	for _, program := range []maker{sample.Program, sample.Kinded, sample.Begun, sample.Causal} {
@@ -87,6 +138,9 @@ func TestSameDice(t *testing.T) {
 			a, _ := show.Show(p)
 			b, _ := show.Show(program(throw(), 1000))
 			small, large = small+len(a), large+len(b)
+			if !reflect.DeepEqual(sample.Flat(throw(), 20, true), sample.Flat(throw(), 20, true)) {
+				t.Fatal(seed)
+			}
 		}
 		if 4*small > 3*large {
 			t.Error(small, large)
@@ -106,6 +160,11 @@ func TestAnyDice(t *testing.T) {
 				p := []maker{sample.Program, sample.Kinded, sample.Begun, sample.Causal}[i](dice, size)
 				if err, place := check(p); err != api.OK {
 					t.Error(name+" "+strconv.Itoa(size), i, p, err, place)
+				}
+			}
+			for _, circles := range []bool{false, true} {
+				if f := sample.Flat(dice, size, circles); !flat.Good(f) {
+					t.Error(name, f)
 				}
 			}
 		}
