@@ -3,7 +3,6 @@ package flat_test
 import (
 	"math/rand"
 	"reflect"
-	"sort"
 	"strconv"
 	"strings"
 	"testing"
@@ -93,23 +92,6 @@ func runs(t *testing.T, src, script, want string) {
 	if got, ok := meaning.Source(p, s, 100); !ok || textOf(got) != want {
 		t.Errorf("%s\n%s\nthe source tells %s\nwant %s", src, script, textOf(got), want)
 	}
-}
-
-// anyScript makes one that is right for some inputs.
-func anyScript(r *rand.Rand, ins []string) api.Script {
-	num := func(least int) api.Rat {
-		n, _ := ratio.Div(ratio.Of(int64(least+r.Intn(13))), ratio.Of(int64(1+r.Intn(3))))
-		return n
-	}
-	s := api.Script{Horizon: num(0), Cascade: r.Intn(8), Bits: []int{100, 100, 30, api.MaxBits, r.Intn(12) + 1}[r.Intn(5)]}
-	for range r.Intn(12) {
-		at := num(0)
-		if len(ins) > 0 && ratio.Cmp(at, s.Horizon) <= 0 {
-			s.Changes = append(s.Changes, api.Change{At: at, Input: ins[r.Intn(len(ins))], Value: num(-5)})
-		}
-	}
-	sort.SliceStable(s.Changes, func(i, j int) bool { return ratio.Cmp(s.Changes[i].At, s.Changes[j].At) < 0 })
-	return s
 }
 
 // agrees holds a flat program's run against what its program means, and tells that.

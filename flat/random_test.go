@@ -17,7 +17,7 @@ func TestRandomRuns(t *testing.T) {
 		p := sample.Causal(r.Intn, 90)
 		f := flattened(t, p)
 		for range 3 {
-			s := anyScript(r, f.Ins)
+			s := sample.Script(r.Intn, f.Ins)
 			got := agrees(t, p, f, s)
 			ends[got.End]++
 			for _, e := range got.Entries {

@@ -1,9 +1,6 @@
 package meaning
 
-import (
-	"foliot/api"
-	"foliot/ratio"
-)
+import "foliot/api"
 
 // Flat tells what a good flat program does by a right script (12.2, 12.4), up to so many instants: if more come, those, and an End of 0. A flat program in which something hangs on itself does nothing: false.
 func Flat(f api.Flat, s api.Script, most int) (api.Trace, bool) {
@@ -16,7 +13,6 @@ func Flat(f api.Flat, s api.Script, most int) (api.Trace, bool) {
 	}
 	for _, x := range f.Conts {
 		m.conts = append(m.conts, x.Init)
-		m.rates = append(m.rates, api.Value{})
 	}
 	t := run[int](m, f.Ins, s, most)
 	if m.circle {
@@ -29,13 +25,14 @@ func Flat(f api.Flat, s api.Script, most int) (api.Trace, bool) {
 type flat struct {
 	api.Flat
 	*faults
-	eqs                []api.FEq // by their variables
-	mems, conts, rates []api.Value
-	in                 []api.Rat
-	passes             map[int]struct{}
-	values             []api.Value
-	done               []int // of each variable: was it asked for, is it told
-	circle             bool
+	eqs         []api.FEq // by their variables
+	mems, conts []api.Value
+	rates       []rate
+	in          []api.Rat
+	passes      map[int]struct{}
+	values      []api.Value
+	done        []int // of each variable: was it asked for, is it told
+	circle      bool
 }
 
 func (m *flat) instant(in []api.Rat, passes map[int]struct{}, f *faults) told[int] {
@@ -119,14 +116,6 @@ func (m *flat) equation(q api.FEq) api.Value {
 		return m.kept(m.mems[q.K], m.Mems[q.K].Init, m.Mems[q.K].Resets)
 	case "cont":
 		return m.kept(m.conts[q.K], m.Conts[q.K].Init, m.Conts[q.K].Resets)
-	case "gand":
-		all := true
-		for _, v := range q.Args {
-			all = all && isTrue(m.values[v])
-		}
-		return truth(all)
-	case "mrg":
-		return m.merged(q.Args)
 	}
 	var l []api.Value
 	for _, v := range q.Args {
@@ -142,19 +131,6 @@ func (m *flat) kept(now, init api.Value, resets []int) api.Value {
 	return now
 }
 
-func (m *flat) merged(l []int) api.Value {
-	for len(l) > 1 {
-		if isTrue(m.values[l[0]]) {
-			return m.values[l[1]]
-		}
-		l = l[2:]
-	}
-	if len(l) == 1 {
-		return m.values[l[0]]
-	}
-	return api.Value{}
-}
-
 // keep is what is done behind the equations.
 func (m *flat) keep() {
 	for k, x := range m.Mems {
@@ -164,10 +140,10 @@ func (m *flat) keep() {
 			m.mems[k] = x.Init
 		}
 	}
+	m.rates = make([]rate, len(m.Conts))
 	for k, x := range m.Conts {
-		m.rates[k] = api.Value{}
 		if m.guarded(x.Guard) {
-			m.conts[k], m.rates[k] = m.values[x.Var], m.slope(x.Slopes)
+			m.conts[k], m.rates[k] = m.values[x.Var], rate{true, m.slope(x.Slopes)}
 		} else if m.any(x.Resets) {
 			m.conts[k] = x.Init
 		}
@@ -180,19 +156,18 @@ func (m *flat) slope(l []api.Slope) api.Value {
 			return m.values[s.Var]
 		}
 	}
-	return api.Value{Kind: api.VNum, Num: ratio.Of(0)}
+	return nought()
 }
 
 func (m *flat) cross(c api.Cross) line {
 	var l []line
-	still := api.Value{Kind: api.VNum, Num: ratio.Of(0)}
 	for _, op := range c.Ops {
 		a := op.Args
 		switch op.Op {
 		case "var":
-			l = append(l, line{m.values[a[0]], still})
+			l = append(l, line{m.values[a[0]], nought()})
 		case "cont":
-			l = append(l, line{m.conts[a[0]], m.rates[a[0]]})
+			l = append(l, m.rates[a[0]].of(m.conts[a[0]]))
 		case "neg":
 			l = append(l, m.even("-", l[a[0]]))
 		case "sel":
@@ -207,16 +182,9 @@ func (m *flat) cross(c api.Cross) line {
 }
 
 func (m *flat) move(dt api.Rat, bits int) bool {
-	var l []api.Value
-	for k, v := range m.conts {
-		if m.rates[k].Kind == api.VNum && v.Kind == api.VNum {
-			v.Num = ratio.Add(v.Num, ratio.Mul(m.rates[k].Num, dt))
-			if ratio.Bits(v.Num) > bits {
-				return false
-			}
-		}
-		l = append(l, v)
+	l, ok := moved(m.conts, m.rates, dt, bits)
+	if ok {
+		m.conts = l
 	}
-	m.conts = l
-	return true
+	return ok
 }

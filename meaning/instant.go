@@ -4,7 +4,6 @@ import (
 	"slices"
 
 	"foliot/api"
-	"foliot/ratio"
 )
 
 // What is known at an instant of something that may be so.
@@ -122,7 +121,7 @@ func (i *instant) rate(n *node, name string) api.Value {
 	if s, q := i.teller(n.root, name); q != nil {
 		return i.value(s, &q.Args[0])
 	}
-	return api.Value{Kind: api.VNum, Num: ratio.Of(0)}
+	return nought()
 }
 
 // part is one of the values that an expression gives.

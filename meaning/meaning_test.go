@@ -211,3 +211,46 @@ func TestKept(t *testing.T) {
 		}
 	}
 }
+
+func TestCode(t *testing.T) {
+	// 17.2 to 17.5: bodies go instruction by instruction; what is not on tells nothing, or does nothing.
+	in := func(op string, dst, k int, args ...int) api.Ins {
+		return api.Ins{Op: op, Dst: dst, K: k, Args: args, Guard: -1}
+	}
+	if got := meaning.Code(api.Code{Ins: 1, Outs: 1, Slots: 1, Step: []api.Ins{in("in", 0, 0), in("neg", 0, 0, 0), in("out", 0, 0, 0)}}, []string{"v"}, script(1, 0, 9, change("1", "v", 3)), 9); short(got) != "0.0 0, 1.0 -3, 1.0 end1" {
+		t.Error(short(got))
+	}
+	// A state that goes on by 2 from 0 to 3, and begins anew there; it has crossings that are on, that are not, and that ask for what stays.
+	when := func(guard int, x api.Ins) api.Ins {
+		x.Guard, x.Resets = guard, []int{2}
+		return x
+	}
+	number := func(dst int, s string) api.Ins { return api.Ins{Op: "lit", Dst: dst, Lit: num(s), Guard: -1} }
+	c := api.Code{Outs: 1, Slots: 6, Crosses: 4, Lines: 5, Conts: []api.Value{num("0"), num("5")}, Mems: []api.Value{num("9")},
+		Step: []api.Ins{
+			{Op: "lit", Dst: 0, Lit: truth(1), Guard: -1}, {Op: "lit", Dst: 1, Lit: truth(0), Guard: -1}, in("flag", 2, 1),
+			number(3, "2"), number(4, "-3"), when(-1, in("cont", 5, 0)), when(0, in("state", 0, 0, 5)), when(1, in("state", 0, 1, 5)), when(1, in("keep", 0, 0, 5)),
+			when(0, in("out", 0, 0, 5)), when(1, in("out", 0, 0, 4)), when(1, in("again", 0, 0, 0)), in("again", 0, 0, 1),
+		},
+		Deriv: []api.Ins{when(0, in("slope", 0, 0, 1, 4, 0, 3, -1, 4)), when(1, in("slope", 0, 1, -1, 3))},
+		Cross: []api.Ins{
+			in("lcont", 0, 0), when(0, in("lvar", 1, 0, 4)), in("l+", 2, 0, 0, 1), in("lcont", 3, 1), when(1, in("lcont", 4, 0)),
+			in("ask", 0, 1, 2), in("ask", 0, 0, 3), when(1, in("ask", 0, 2, 2)), in("ask", 0, 3, 4),
+		},
+	}
+	if got := meaning.Code(c, nil, script(4, 0, 9), 9); short(got) != "0.0 0, 3/2.0 0, 3.0 0, 4.0 end1" {
+		t.Error(short(got))
+	}
+	c.Step[6].Guard = 1 // the state is not written to, and begins anew alone
+	if got := meaning.Code(c, nil, script(4, 0, 9), 9); short(got) != "0.0 0, 3/2.0 0, 3.0 0, 4.0 end1" {
+		t.Error(short(got))
+	}
+	c.Deriv[0].Guard = 1 // it does not go on
+	if got := meaning.Code(c, nil, script(4, 0, 9), 9); short(got) != "0.0 0, 4.0 end1" {
+		t.Error(short(got))
+	}
+	c.Deriv[0].Guard, c.Deriv[0].Args = -1, nil // it goes on by 0
+	if got := meaning.Code(c, nil, script(4, 0, 9), 9); short(got) != "0.0 0, 4.0 end1" {
+		t.Error(short(got))
+	}
+}

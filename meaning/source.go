@@ -187,7 +187,7 @@ func (m *source) move(dt api.Rat, bits int) bool {
 func (i *instant) line(s *scope, e *api.Expr) line {
 	switch {
 	case kinds.Of(*e, s.ders) == 0:
-		return line{i.value(s, e), api.Value{Kind: api.VNum, Num: ratio.Of(0)}}
+		return line{i.value(s, e), nought()}
 	case e.Kind == api.EVar:
 		return line{i.variable(s.node, e.Name), i.rate(s.node, e.Name)}
 	case e.Kind == api.EUn:

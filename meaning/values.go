@@ -29,6 +29,8 @@ func truth(is bool) api.Value {
 	return v
 }
 
+func nought() api.Value { return api.Value{Kind: api.VNum, Num: ratio.Of(0)} }
+
 func isTrue(v api.Value) bool { return v.Kind == api.VBool && ratio.Sign(v.Num) != 0 }
 
 func ctor(name string) api.Value { return api.Value{Kind: api.VCtor, Name: name} }
@@ -49,12 +51,15 @@ func literal(e api.Expr) api.Value {
 	return api.Value{Kind: api.VNum, Num: r}
 }
 
-// op is what an operation of a flat program tells of values; of nothing it tells nothing.
+// op is what an operation of a flat program tells of values; of nothing it tells nothing, but for those that look at truths alone.
 func (f *faults) op(name string, l ...api.Value) api.Value {
-	if l[0].Kind == api.VNil {
-		return api.Value{}
-	}
 	switch {
+	case name == "gand":
+		return areTrue(l)
+	case name == "mrg":
+		return merged(l)
+	case l[0].Kind == api.VNil:
+		return api.Value{}
 	case name == "sel" && isTrue(l[0]):
 		return l[1]
 	case name == "sel":
@@ -65,6 +70,28 @@ func (f *faults) op(name string, l ...api.Value) api.Value {
 		return api.Value{}
 	}
 	return f.two(name, l[0], l[1])
+}
+
+func areTrue(l []api.Value) api.Value {
+	all := true
+	for _, v := range l {
+		all = all && isTrue(v)
+	}
+	return truth(all)
+}
+
+// merged is the first value whose guard, ahead of it, is true; else the one that is left over.
+func merged(l []api.Value) api.Value {
+	for len(l) > 1 {
+		if isTrue(l[0]) {
+			return l[1]
+		}
+		l = l[2:]
+	}
+	if len(l) == 1 {
+		return l[0]
+	}
+	return api.Value{}
 }
 
 func (f *faults) one(name string, a api.Value) api.Value {

@@ -72,52 +72,12 @@ func TestWhateverIsGiven(t *testing.T) {
 	}
 }
 
-// longer puts numbers behind the ends of a flat program's lists.
-func longer(f *api.Flat) {
-	more := func(l []int) []int { return append(slices.Clone(l), 70, 80, 90)[:len(l)] }
-	f.Outs, f.Again = more(f.Outs), more(f.Again)
-	for i := range f.Eqs {
-		f.Eqs[i].Args = more(f.Eqs[i].Args)
-	}
-	for i := range f.Mems {
-		f.Mems[i].Resets = more(f.Mems[i].Resets)
-	}
-	for i := range f.Conts {
-		f.Conts[i].Resets = more(f.Conts[i].Resets)
-	}
-	for i := range f.Cross {
-		for k := range f.Cross[i].Ops {
-			f.Cross[i].Ops[k].Args = more(f.Cross[i].Ops[k].Args)
-		}
-	}
-}
-
-// areBehindEnds tells whether those numbers are still there.
-func areBehindEnds(f api.Flat) bool {
-	all := [][]int{f.Outs, f.Again}
-	for _, q := range f.Eqs {
-		all = append(all, q.Args)
-	}
-	for _, m := range f.Mems {
-		all = append(all, m.Resets)
-	}
-	for _, c := range f.Conts {
-		all = append(all, c.Resets)
-	}
-	for _, c := range f.Cross {
-		for _, op := range c.Ops {
-			all = append(all, op.Args)
-		}
-	}
-	return !slices.ContainsFunc(all, func(l []int) bool { return !slices.Equal(l[len(l):len(l)+3], []int{70, 80, 90}) })
-}
-
 func TestNothingIsChanged(t *testing.T) {
 	// R4, R5: what is handed in is as it was, to behind its lists' ends; what is handed out shares no memory with anything.
 	for seed := range int64(300) {
 		make := func() api.Flat {
 			f := sample.Flat(dice(seed).Intn, 12, false)
-			longer(&f)
+			sample.Lengthen(&f)
 			return f
 		}
 		f := make()
@@ -134,7 +94,7 @@ func TestNothingIsChanged(t *testing.T) {
 				t.Fatal(f, other, again)
 			}
 		}
-		if !reflect.DeepEqual(f, make()) || !areBehindEnds(f) {
+		if !reflect.DeepEqual(f, make()) || !sample.Lengthened(f) {
 			t.Fatal(f)
 		}
 		// Order and Slot are two.

@@ -141,22 +141,6 @@ func TestAllPlans(t *testing.T) {
 	}
 }
 
-// anyOrder is one in which each variable stands behind what it needs: any, not the least.
-func anyOrder(r *rand.Rand, f api.Flat) []int {
-	needs := cause.Needs(f)
-	var out []int
-	for len(out) < len(needs) {
-		var ready []int
-		for v, l := range needs {
-			if !slices.Contains(out, v) && !slices.ContainsFunc(l, func(u int) bool { return !slices.Contains(out, u) }) {
-				ready = append(ready, v)
-			}
-		}
-		out = append(out, ready[r.Intn(len(ready))])
-	}
-	return out
-}
-
 // spoil changes something in a plan; it may be right all the same.
 func spoil(r *rand.Rand, p *api.Plan) {
 	n := len(p.Order)
@@ -185,7 +169,7 @@ func TestRandomPlans(t *testing.T) {
 	for seed := range int64(3000) {
 		r := dice(seed)
 		f := sample.Flat(r.Intn, 1+r.Intn(20), false)
-		p := api.Plan{Order: anyOrder(r, f)}
+		p := api.Plan{Order: sample.Order(r.Intn, cause.Needs(f))}
 		p.Slot, p.Slots = planOf(f, p.Order)
 		right(t, "by any order", true, f, p)
 		if p.Slots != mostAlive(f, p.Order) {

@@ -3,6 +3,7 @@ package sample_test
 import (
 	"math/rand"
 	"reflect"
+	"slices"
 	"strconv"
 	"strings"
 	"testing"
@@ -14,6 +15,7 @@ import (
 	"foliot/kinds"
 	"foliot/lex"
 	"foliot/meaning"
+	"foliot/ratio"
 	"foliot/sample"
 	"foliot/show"
 	"foliot/types"
@@ -122,6 +124,75 @@ func TestOdd(t *testing.T) {
 	}
 	if count[api.OK] < 50 || count[api.ErrArg] < 1000 || count[api.ErrCause] < 20 {
 		t.Error(count)
+	}
+}
+
+func TestOrder(t *testing.T) {
+	// Orders have each once, behind what it needs; not the least one alone.
+	count := map[int]int{}
+	needs := [][]int{{1}, {}, {3, 0}, {}}
+	for seed := range int64(100) {
+		l := sample.Order(rand.New(rand.NewSource(seed)).Intn, needs)
+		at := func(v int) int { return slices.Index(l, v) }
+		if len(l) != 4 || at(1) < 0 || at(0) < at(1) || at(3) < 0 || at(2) < at(0) || at(2) < at(3) {
+			t.Fatal(l)
+		}
+		count[at(3)]++
+	}
+	if count[0] < 10 || count[1] < 10 || count[2] < 10 {
+		t.Error(count)
+	}
+}
+
+func TestScripts(t *testing.T) {
+	// Scripts are right, and there is of everything in them.
+	changes, ends, limits := 0, 0, map[int]int{}
+	for seed := range int64(1000) {
+		ins := []string{"u", "v"}[:seed%3]
+		s := sample.Script(rand.New(rand.NewSource(seed)).Intn, ins)
+		now := ratio.Of(0)
+		for _, c := range s.Changes {
+			if ratio.Cmp(c.At, now) < 0 || ratio.Cmp(c.At, s.Horizon) > 0 || !slices.Contains(ins, c.Input) {
+				t.Fatal(s)
+			}
+			now = c.At
+			changes++
+			if ratio.Cmp(now, s.Horizon) == 0 {
+				ends++
+			}
+		}
+		if ratio.Sign(s.Horizon) < 0 || s.Cascade < 0 || s.Cascade > api.MaxCount || s.Bits < 1 || s.Bits > api.MaxBits {
+			t.Fatal(s)
+		}
+		limits[s.Bits]++
+		limits[-s.Cascade]++
+	}
+	if changes < 1000 || ends < 50 || limits[api.MaxBits] < 50 || limits[1] == 0 || limits[0] < 50 || limits[-7] < 50 {
+		t.Error(changes, ends, limits)
+	}
+}
+
+func TestLengthen(t *testing.T) {
+	// What is behind the lists' ends is seen there, and nothing else is changed.
+	row := func() []int { return make([]int, 1, 9) }
+	make := func() api.Flat {
+		return api.Flat{Outs: row(), Again: row(), Eqs: []api.FEq{{Args: row()}}, Mems: []api.Mem{{Resets: row()}}, Conts: []api.Cont{{Resets: row()}}, Cross: []api.Cross{{Ops: []api.COp{{Args: row()}}}}}
+	}
+	f := make()
+	rows := func() []*[]int {
+		return []*[]int{&f.Outs, &f.Again, &f.Eqs[0].Args, &f.Mems[0].Resets, &f.Conts[0].Resets, &f.Cross[0].Ops[0].Args}
+	}
+	for i := range rows() {
+		f = make()
+		sample.Lengthen(&f)
+		if !reflect.DeepEqual(f, make()) || !sample.Lengthened(f) {
+			t.Fatal(f)
+		}
+		l := rows()[i]
+		(*l)[:4][1+i%3] = 5
+		if sample.Lengthened(f) {
+			t.Error(i)
+		}
 	}
 }
 
