@@ -40,7 +40,7 @@ type flatMaker struct {
 
 // ends makes what is asked for behind all equations.
 func (m *flatMaker) ends() {
-	m.Outs, m.Again = m.some(m.row, 0, 2), m.some(m.row, 0, 1)
+	m.Outs, m.Again = m.picked(m.row, 0, 2), m.picked(m.row, 0, 1)
 	for range m.dice(4) {
 		m.Mems = append(m.Mems, api.Mem{Init: m.value(), Next: m.any(), Guard: m.guard(m.row), Resets: m.resets()})
 	}
@@ -104,16 +104,16 @@ func (m *flatMaker) equation(place int) api.FEq {
 }
 
 // operation makes one of variables.
-func (m *flatMaker) operation(may []int) (string, []int) {
+func (m *maker) operation(may []int) (string, []int) {
 	switch m.dice(6) {
 	case 0:
-		return one(m.maker, "copy", "neg", "not", "floor", "rat"), m.some(may, 1, 1)
+		return one(m, "copy", "neg", "not", "floor", "rat"), m.picked(may, 1, 1)
 	case 1:
-		return one(m.maker, "gand", "mrg"), m.some(may, 1, 5)
+		return one(m, "gand", "mrg"), m.picked(may, 1, 5)
 	case 2:
-		return "sel", m.some(may, 3, 3)
+		return "sel", m.picked(may, 3, 3)
 	}
-	return one(m.maker, "+", "-", "*", "/", "div", "mod", "<", "<=", ">", ">=", "==", "!=", "and", "or"), m.some(may, 2, 2)
+	return one(m, "+", "-", "*", "/", "div", "mod", "<", "<=", ">", ">=", "==", "!=", "and", "or"), m.picked(may, 2, 2)
 }
 
 // read lets an equation read something, if there is such a thing.
@@ -127,8 +127,8 @@ func (m *flatMaker) read(q *api.FEq, kept bool) {
 	}
 }
 
-// some are so many variables of these; one may stand twice.
-func (m *flatMaker) some(of []int, least, most int) []int {
+// picked are so many variables of these; one may stand twice.
+func (m *maker) picked(of []int, least, most int) []int {
 	var out []int
 	for range least + m.dice(most-least+1) {
 		out = append(out, of[m.dice(len(of))])
@@ -139,7 +139,7 @@ func (m *flatMaker) some(of []int, least, most int) []int {
 func (m *flatMaker) any() int { return m.row[m.dice(len(m.row))] }
 
 // guard is a variable of these, or none.
-func (m *flatMaker) guard(of []int) int {
+func (m *maker) guard(of []int) int {
 	if len(of) == 0 || !m.chance(3) {
 		return -1 - m.dice(3)
 	}
@@ -148,12 +148,12 @@ func (m *flatMaker) guard(of []int) int {
 
 func (m *flatMaker) resets() []int {
 	if m.circles {
-		return m.some(m.row, 0, 2)
+		return m.picked(m.row, 0, 2)
 	}
-	return m.some(m.row[:m.early], 0, 2)
+	return m.picked(m.row[:m.early], 0, 2)
 }
 
-func (m *flatMaker) value() api.Value {
+func (m *maker) value() api.Value {
 	switch m.dice(5) {
 	case 0:
 		return api.Value{}

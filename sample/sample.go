@@ -1,4 +1,4 @@
-// Package sample makes programs for the tests of the layers: right ones, whose names and types are right too (layers 6, 8, 9), and, where that is asked for, their kinds (layer 10), what they tell at the first instant (layer 11), and what hangs on what (layer 13); and good flat programs (layer 12). What they are like hangs on dice that a test throws.
+// Package sample makes programs for the tests of the layers: right ones, whose names and types are right too (layers 6, 8, 9), and, where that is asked for, their kinds (layer 10), what they tell at the first instant (layer 11), and what hangs on what (layer 13); good flat programs (layer 12); and object code that may run (layer 16). What they are like hangs on dice that a test throws.
 package sample
 
 import (

@@ -16,6 +16,7 @@ import (
 	"foliot/lex"
 	"foliot/meaning"
 	"foliot/ratio"
+	"foliot/safe"
 	"foliot/sample"
 	"foliot/show"
 	"foliot/types"
@@ -110,6 +111,44 @@ func TestFlat(t *testing.T) {
 	}
 	if orders[true] < 300 || orders[false] < 300 {
 		t.Error(orders)
+	}
+}
+
+func TestCode(t *testing.T) {
+	// Object code may run, and there is of everything in it, and of such as no flat program comes to.
+	count := map[string]int{}
+	for seed := range int64(2000) {
+		size := int(seed % 25)
+		c := sample.Code(rand.New(rand.NewSource(seed)).Intn, size)
+		if !safe.Right(c) || max(len(c.Step), len(c.Deriv), len(c.Cross)) > size {
+			t.Fatal(c)
+		}
+		note := func(what string, is bool) {
+			if is {
+				count[what]++
+			}
+		}
+		for b, l := range [][]api.Ins{c.Step, c.Deriv, c.Cross} {
+			written := map[int]int{}
+			note("empty body", len(l) == 0)
+			for i, x := range l {
+				count[x.Op]++
+				count["reset"] += len(x.Resets)
+				note("guard", x.Guard >= 0)
+				note("again Dst", b != 1 && written[x.Dst] > 0)
+				note("early end", b == 0 && i < len(l)/2 && x.Op == "keep")
+				note("pairs", b == 1 && len(x.Args) > 2)
+				written[x.Dst]++
+			}
+		}
+	}
+	for _, op := range strings.Fields("lit in mem cont flag copy neg not floor rat gand mrg + - * / div mod < <= > >= == != and or sel keep state out again slope lvar lcont lneg l+ l- l* l/ lsel ask reset guard pairs") {
+		if count[op] < 100 {
+			t.Error(op, count[op])
+		}
+	}
+	if count["empty body"] < 100 || count["again Dst"] < 100 || count["early end"] < 100 {
+		t.Error(count)
 	}
 }
 
@@ -209,7 +248,7 @@ func TestSameDice(t *testing.T) {
 			a, _ := show.Show(p)
 			b, _ := show.Show(program(throw(), 1000))
 			small, large = small+len(a), large+len(b)
-			if !reflect.DeepEqual(sample.Flat(throw(), 20, true), sample.Flat(throw(), 20, true)) {
+			if !reflect.DeepEqual(sample.Flat(throw(), 20, true), sample.Flat(throw(), 20, true)) || !reflect.DeepEqual(sample.Code(throw(), 20), sample.Code(throw(), 20)) {
 				t.Fatal(seed)
 			}
 		}
@@ -237,6 +276,9 @@ func TestAnyDice(t *testing.T) {
 				if f := sample.Flat(dice, size, circles); !flat.Good(f) {
 					t.Error(name, f)
 				}
+			}
+			if c := sample.Code(dice, size); !safe.Right(c) {
+				t.Error(name, c)
 			}
 		}
 	}
