@@ -1,4 +1,4 @@
-// Package meaning tells what programs do by the words of chapter 12 alone, for the tests of the layers: a source as it stands, and a flat program; what object code does by those of chapter 17; and what hangs on itself by those of chapter 13. Programs it tells by demand, knowing of no order, so that it is a second way to what the layers tell.
+// Package meaning tells what programs do by the words of chapter 12 alone, for the tests of the layers: a source as it stands, and a flat program; what object code does by those of chapter 17; what the calls of a machine that runs it come to in a run; and what hangs on itself by those of chapter 13. Programs it tells by demand, knowing of no order, so that it is a second way to what the layers tell.
 package meaning
 
 import "foliot/api"

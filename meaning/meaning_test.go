@@ -6,6 +6,7 @@ import (
 	"testing"
 
 	"foliot/api"
+	"foliot/integer"
 	"foliot/meaning"
 	"foliot/parse"
 	"foliot/ratio"
@@ -129,7 +130,7 @@ func TestOps(t *testing.T) {
 		}
 		tells(t, want+end, lit(a), lit(b), api.FEq{Op: op, Args: []int{0, 1}})
 	}
-	for _, x := range []string{"+ 3 4 7", "- 3 4 -1", "* 3 4 12", "/ 3 4 3/4", "div -7 2 -4", "mod -7 2 1", "< 1 2 t1", "<= 2 2 t1", "> 1 2 t0", ">= 1 2 t0", "== 2 2 t1", "!= 2 2 t0", "/ 3 0 end2", "div 3 0 end2", "mod 3 0 end2", "* 16 16 end4", "/ 1/255 2 end4"} {
+	for _, x := range []string{"+ 3 4 7", "- 3 4 -1", "* 3 4 12", "/ 3 4 3/4", "div -7 2 -4", "mod -7 2 1", "div 7/2 1/2 7", "div -3/2 2 -1", "mod -3/2 2 1/2", "< 1 2 t1", "<= 2 2 t1", "> 1 2 t0", ">= 1 2 t0", "== 2 2 t1", "!= 2 2 t0", "/ 3 0 end2", "div 3 0 end2", "mod 3 0 end2", "* 16 16 end4", "/ 1/255 2 end4"} {
 		l := strings.Fields(x)
 		two(l[0], num(l[1]), num(l[2]), l[3])
 	}
@@ -251,6 +252,57 @@ func TestCode(t *testing.T) {
 	}
 	c.Deriv[0].Guard, c.Deriv[0].Args = -1, nil // it goes on by 0
 	if got := meaning.Code(c, nil, script(4, 0, 9), 9); short(got) != "0.0 0, 4.0 end1" {
+		t.Error(short(got))
+	}
+}
+
+// clock is a machine of one input: a state goes on by 1 from -1, and an up asks for it, the second one of two; when that passes, it begins anew. Its input says what goes wrong.
+type clock struct {
+	in    int64
+	state api.Rat
+	pass  bool
+}
+
+func (c *clock) Step(in []api.Rat, flags []bool, bits int) (bool, bool) {
+	c.in, _ = integer.Small(in[0].Num)
+	c.pass = len(flags) == 2 && !flags[0] && flags[1]
+	if c.pass || len(c.state.Den) == 0 {
+		c.state = ratio.Of(-1)
+	}
+	return c.in == 1, c.in == 2
+}
+
+func (c *clock) Deriv() {}
+
+func (c *clock) Cross(bits int) ([]api.Line, bool, bool) {
+	return []api.Line{{}, {On: true, V: c.state, S: ratio.Of(1)}}, c.in == 3, c.in == 4
+}
+
+func (c *clock) Move(dt api.Rat, bits int) bool {
+	c.state = ratio.Add(c.state, dt)
+	return c.in != 5
+}
+
+func (c *clock) Outs() []api.Value {
+	if c.pass {
+		return []api.Value{truth(1)}
+	}
+	return []api.Value{truth(0)}
+}
+
+func (c *clock) Again() bool { return c.in == 6 }
+
+func TestRun(t *testing.T) {
+	// 12.2, of a machine's calls.
+	for in, want := range []string{
+		"0.0 t0, 1/2.0 t0, 1.0 t1, 2.0 t1, 2.0 end1", "0.0 t0, 1/2.0 end2", "0.0 t0, 1/2.0 end4", "0.0 t0, 1/2.0 end2", "0.0 t0, 1/2.0 end4", "0.0 t0, 1/2.0 t0, 1/2.0 end4",
+		"0.0 t0, 1/2.0 t0, 1/2.1 t0, 1/2.2 t0, 1/2.2 end3",
+	} {
+		if got := meaning.Run(&clock{}, []string{"v"}, script(2, 2, 9, change("1/2", "v", int64(in))), 20); short(got) != want {
+			t.Error(in, short(got))
+		}
+	}
+	if got := meaning.Run(&clock{}, []string{"v"}, script(9, 2, 9), 3); short(got) != "0.0 t0, 1.0 t1, 2.0 t1, 0.0 end0" {
 		t.Error(short(got))
 	}
 }

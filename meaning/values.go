@@ -2,7 +2,6 @@ package meaning
 
 import (
 	"foliot/api"
-	"foliot/integer"
 	"foliot/ratio"
 )
 
@@ -18,7 +17,7 @@ func (f *faults) number(r api.Rat) api.Value {
 		f.big = true
 		return api.Value{}
 	}
-	return api.Value{Kind: api.VNum, Num: r}
+	return api.Value{Kind: api.VNum, Num: ratio.Norm(r)}
 }
 
 func truth(is bool) api.Value {
@@ -119,12 +118,13 @@ func (f *faults) two(name string, a, b api.Value) api.Value {
 	case "/":
 		r, err := ratio.Div(a.Num, b.Num)
 		return f.quotient(r, err)
-	case "div":
-		q, _, err := integer.Div(a.Num.Num, b.Num.Num)
-		return f.quotient(api.Rat{Num: q, Den: []uint32{1}}, err)
-	case "mod":
-		_, r, err := integer.Div(a.Num.Num, b.Num.Num)
-		return f.quotient(api.Rat{Num: r, Den: []uint32{1}}, err)
+	case "div", "mod":
+		q, err := ratio.Div(a.Num, b.Num)
+		r := api.Rat{Num: ratio.Floor(q), Den: []uint32{1}}
+		if name == "mod" {
+			r = ratio.Sub(a.Num, ratio.Mul(r, b.Num))
+		}
+		return f.quotient(r, err)
 	case "and":
 		return truth(isTrue(a) && isTrue(b))
 	case "or":
