@@ -19,6 +19,7 @@ import (
 	"foliot/safe"
 	"foliot/sample"
 	"foliot/show"
+	"foliot/trace"
 	"foliot/types"
 )
 
@@ -211,6 +212,39 @@ func TestScripts(t *testing.T) {
 	}
 }
 
+func TestTraces(t *testing.T) {
+	// Traces are right, with as many outputs as are asked for, and there is of everything in them.
+	ends, kinds, lengths, falls := map[int]int{}, map[int]int{}, map[int]int{}, 0
+	for seed := range int64(1000) {
+		outs := int(seed % 4)
+		x := sample.Trace(rand.New(rand.NewSource(seed)).Intn, outs)
+		if !trace.Right(x) {
+			t.Fatal(x)
+		}
+		ends[x.End]++
+		lengths[len(x.Entries)]++
+		for i, e := range x.Entries {
+			if len(e.Outs) != outs {
+				t.Fatal(x)
+			}
+			for _, v := range e.Outs {
+				kinds[v.Kind]++
+			}
+			if i == 0 {
+				continue
+			}
+			ahead := x.Entries[i-1]
+			later := ratio.Cmp(ahead.At, e.At)
+			if later > 0 || later == 0 && e.Index != ahead.Index+1 || later < 0 && e.Index != 0 {
+				falls++
+			}
+		}
+	}
+	if falls > 0 || min(ends[1], ends[2], ends[3], ends[4]) < 100 || min(kinds[0], kinds[1], kinds[2], kinds[3]) < 100 || min(lengths[0], lengths[1], lengths[9]) < 30 {
+		t.Error(falls, ends, kinds, lengths)
+	}
+}
+
 func TestLengthen(t *testing.T) {
 	// What is behind the lists' ends is seen there, and nothing else is changed.
 	row := func() []int { return make([]int, 1, 9) }
@@ -248,7 +282,7 @@ func TestSameDice(t *testing.T) {
 			a, _ := show.Show(p)
 			b, _ := show.Show(program(throw(), 1000))
 			small, large = small+len(a), large+len(b)
-			if !reflect.DeepEqual(sample.Flat(throw(), 20, true), sample.Flat(throw(), 20, true)) || !reflect.DeepEqual(sample.Code(throw(), 20), sample.Code(throw(), 20)) {
+			if !reflect.DeepEqual(sample.Flat(throw(), 20, true), sample.Flat(throw(), 20, true)) || !reflect.DeepEqual(sample.Code(throw(), 20), sample.Code(throw(), 20)) || !reflect.DeepEqual(sample.Trace(throw(), 3), sample.Trace(throw(), 3)) {
 				t.Fatal(seed)
 			}
 		}
@@ -279,6 +313,9 @@ func TestAnyDice(t *testing.T) {
 			}
 			if c := sample.Code(dice, size); !safe.Right(c) {
 				t.Error(name, c)
+			}
+			if x := sample.Trace(dice, max(size, 0)); !trace.Right(x) {
+				t.Error(name, x)
 			}
 		}
 	}
