@@ -54,13 +54,14 @@ func run[K comparable](m machine[K], ins []string, s api.Script, most int) api.T
 	return r.trace
 }
 
-// changes lets inputs change, whose time it is.
+// changes lets inputs change, whose time it is; of two of one name the first one.
 func (r *runner[K]) changes() {
 	for r.next < len(r.script.Changes) && ratio.Cmp(r.script.Changes[r.next].At, r.now) <= 0 {
 		c := r.script.Changes[r.next]
 		for i, name := range r.ins {
 			if name == c.Input {
 				r.in[i] = c.Value
+				break
 			}
 		}
 		r.next++
