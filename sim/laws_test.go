@@ -121,7 +121,7 @@ func anyCode(r *rand.Rand) (api.Code, []string) {
 func TestRandomCodes(t *testing.T) {
 	// 21.1: any object code that may run does as the words say; two inputs may have one name.
 	n := tally{}
-	for seed := range int64(12000) {
+	for seed := range int64(8000) {
 		r := dice(seed)
 		c, ins := anyCode(r)
 		s := sample.Script(r.Intn, ins)
